@@ -351,16 +351,15 @@ func TestHostTTL(t *testing.T) {
 	ups(t, "one more", x, b, list(outer(t, 4, less(t, b), func(p *api.V6) { p.Src, p.Dst = own, aftr })), nil, api.DropNone)
 }
 
-// P32.2: what is told by quoting has the bytes of what was sent, whose sum may be right in another way than Build's.
-func TestHostTTLQuotesWhatWasSent(t *testing.T) {
+// P32.2: what is quoted is as Build makes it, whatever other right sum it came with.
+func TestHostTTLQuotesWhatBuildMakes(t *testing.T) {
 	x := element(t)
 	for id := range 1 << 16 {
 		b := sent(t, 30, func(p *api.V4) { p.TTL, p.ID = 1, id })
 		if b[10] != 0 || b[11] != 0 {
 			continue
 		}
-		b = with(b, 10, 0xFF, 0xFF)
-		ups(t, "another right sum", x, b, nil, list(over(t, b)), api.DropTTL)
+		ups(t, "another right sum", x, with(b, 10, 0xFF, 0xFF), nil, list(over(t, b)), api.DropTTL)
 		return
 	}
 	t.Error("no identifier has the sum 0")
